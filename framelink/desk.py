@@ -1,6 +1,9 @@
 """The desk: takes a list of calls on one end, and gives back the list of their answers."""
 
-from framelink.end import WRONG, open_end
+from framelink.counts import Counts
+from framelink.end import open_end
+from framelink.frames import answer_make, answer_read
+from framelink.refusals import WRONG
 
 OPEN = 1
 WEIGHT = 2
@@ -9,6 +12,13 @@ NEXT = 4
 WENT = 5
 CAME = 6
 JOIN = 7
+LEAVE = 8
+HEAR = 9
+WAITS = 10
+DROP = 11
+COUNTS = 12
+MAKE = 13
+READ = 14
 
 # By a call's number: how many whole numbers it has, and how many rows behind them.
 FORMS = {
@@ -20,6 +30,13 @@ FORMS = {
     6: (0, 1),
     7: (0, 1),
     8: (0, 1),
+    9: (1, 0),
+    10: (2, 0),
+    11: (1, 0),
+    12: (0, 0),
+    13: (1, 3),
+    14: (0, 1),
+    15: (1, 0),
 }
 
 
@@ -60,6 +77,12 @@ class Desk:
         given = self.take_given(call)
         if call == OPEN:
             return self.answer_opening(given)
+        if call == COUNTS:
+            return self.answer_counts()
+        if call == MAKE:
+            return answer_make(given[0], given[1], given[2], given[3])
+        if call == READ:
+            return answer_read(given[0])
         if self.end is None:
             return [WRONG]
         return answer_at(self.end, call, given)
@@ -72,9 +95,14 @@ class Desk:
         self.end = end
         return [0]
 
+    def answer_counts(self):
+        # Ahead of the first opening nothing has happened yet, and that is told too.
+        counts = Counts() if self.end is None else self.end.counts
+        return [0] + counts.in_order()
+
 
 def answer_at(end, call, given):
-    """What an end that is open answers to a call other than open."""
+    """What an end that is open answers to a call that needs one."""
     if call == WEIGHT:
         return end.set_weight(given[0], given[1])
     if call == PUT:
@@ -87,8 +115,16 @@ def answer_at(end, call, given):
         return end.came(given[0])
     if call == JOIN:
         return end.join_group(given[0])
-    # Only leave is left: FORMS has no other call.
-    return end.leave_group(given[0])
+    if call == LEAVE:
+        return end.leave_group(given[0])
+    if call == HEAR:
+        return end.hear(given[0])
+    if call == WAITS:
+        return end.waits(given[0], given[1])
+    if call == DROP:
+        return end.drop(given[0])
+    # Only due is left: FORMS has no other call.
+    return end.due(given[0])
 
 
 def answers(calls):

@@ -1,28 +1,22 @@
 """One end of a link: what waits in its queues, what may go and when, and what it hears.
 
-Each call that an end answers is a method; it gives back the numbers of its answer.
+Each call that needs an open end is a method; it gives back the numbers of its answer.
 """
 
+from framelink.counts import Counts
 from framelink.frames import (
-    LONGEST_BODY,
     body_of,
     is_address,
     is_everybody,
     is_frame,
-    is_kind,
     kind_of,
     make_frame,
+    refusal_of,
     sender_of,
     to_of,
 )
-
-# The refusals.
-WRONG = -1
-NOT_THERE = -2
-NO_FRAME = -3
-NOT_NOW = -4
-FULL = -5
-TOO_LONG = -7
+from framelink.refusals import FULL, NO_FRAME, NOT_NOW, NOT_THERE, WRONG
+from framelink.turns import Turns
 
 # What next answers first, but for a refusal.
 NOTHING_WAITS = 0
@@ -43,9 +37,6 @@ MOST_BURST = 16777216
 MOST_WEIGHT = 64
 MOST_GROUPS = 16
 
-# What a queue's credit grows by in a turn, for each unit of its weight.
-SHARE = 256
-
 # What may go is held in thousandths of a byte: the pace is bytes in a second and
 # times are milliseconds, so a millisecond adds the pace itself, and nothing is rounded.
 THOUSANDTHS = 1000
@@ -64,23 +55,7 @@ class Queue:
 
     def __init__(self):
         self.weight = 1
-        self.credit = 0
         self.line = []
-
-
-class Counts:
-    """What has happened at an end since it was opened."""
-
-    def __init__(self):
-        self.sent_frames = 0
-        self.sent_bytes = 0
-        self.heard_frames = 0
-        self.heard_bytes = 0
-        self.no_frames = 0
-        self.for_others = 0
-        self.refused_full = 0
-        self.grown_old = 0
-        self.not_taken = 0
 
 
 class End:
@@ -95,12 +70,12 @@ class End:
         self.most_may_go = THOUSANDTHS * burst
         self.may_go = self.most_may_go
         self.me = me
-        self.on = 0
-        self.has_share = False
+        self.turns = Turns(0, False, [0 for k in range(queues)])
         # The frame that is handed out is always the first of the queue that is on:
         # nothing moves the turn on before went has been told of it.
         self.is_out = False
         self.groups = []
+        self.hears_all = False
         self.counts = Counts()
 
     def set_weight(self, q, w):
@@ -112,10 +87,9 @@ class End:
     def put(self, now, q, kind, to, body):
         if not self.may_be_now(now) or not self.has_queue(q):
             return [WRONG]
-        if not is_kind(kind) or not is_address(to) or len(body) == 0:
-            return [WRONG]
-        if len(body) > LONGEST_BODY:
-            return [TOO_LONG]
+        refusal = refusal_of(kind, to, self.me, body)
+        if refusal is not None:
+            return [refusal]
         self.pass_time(now)
         line = self.queues[q].line
         if len(line) >= self.each:
@@ -133,11 +107,11 @@ class End:
         self.pass_time(now)
         if not self.has_frames():
             return [NOTHING_WAITS]
-        self.find_turn()
-        frame = self.queues[self.on].line[0].frame
-        lacking = THOUSANDTHS * len(frame) - self.may_go
-        if lacking > 0:
-            return [LATER, now + self.time_to_gain(lacking)]
+        self.turns.find_turn(self.queues)
+        frame = self.queues[self.turns.on].line[0].frame
+        start = self.time_to_go(len(frame))
+        if start > now:
+            return [LATER, start]
         self.is_out = True
         return [HANDED_OUT] + frame
 
@@ -184,6 +158,37 @@ class End:
         self.groups.remove(group)
         return [0]
 
+    def hear(self, choice):
+        if not 0 <= choice <= 1:
+            return [WRONG]
+        self.hears_all = choice == 1
+        return [0]
+
+    def waits(self, now, q):
+        if not self.may_be_now(now) or not self.has_queue(q):
+            return [WRONG]
+        self.pass_time(now)
+        line = self.queues[q].line
+        age = now - line[0].since if len(line) > 0 else 0
+        return [0, len(line), sum([len(one.frame) for one in line]), age]
+
+    def drop(self, q):
+        if not self.has_queue(q):
+            return [WRONG]
+        dropped = self.keep_only(q, [])
+        self.counts.dropped += dropped
+        return [dropped]
+
+    def due(self, now):
+        if not self.may_be_now(now):
+            return [WRONG]
+        self.pass_time(now)
+        times = self.times_to_go() + self.times_of_age()
+        # The time has passed all the same: the promise tells it ahead of this refusal.
+        if len(times) == 0:
+            return [NOT_THERE]
+        return [0, min(times)]
+
     def may_be_now(self, now):
         return self.now <= now < TIME_LIMIT
 
@@ -194,7 +199,7 @@ class End:
         return any([len(queue.line) > 0 for queue in self.queues])
 
     def hears(self, to):
-        return to == self.me or is_everybody(to) or to in self.groups
+        return self.hears_all or to == self.me or is_everybody(to) or to in self.groups
 
     def pass_time(self, now):
         """It is that time: what is too old is gone, and more may go."""
@@ -206,39 +211,52 @@ class End:
                 self.remove_old(q)
 
     def remove_old(self, q):
+        fresh = [one for one in self.not_out(q) if self.now - one.since <= self.life]
+        self.counts.grown_old += self.keep_only(q, fresh)
+
+    def how_many_out(self, q):
+        return 1 if self.is_out and q == self.turns.on else 0
+
+    def not_out(self, q):
+        """The queue's frames but one that is handed out."""
+        return self.queues[q].line[self.how_many_out(q):]
+
+    def keep_only(self, q, staying):
+        """Of the queue's frames these stay, and one that is handed out; tells how many are gone."""
         queue = self.queues[q]
-        out = 1 if self.is_out and q == self.on else 0
-        fresh = [one for one in queue.line[out:] if self.now - one.since <= self.life]
-        kept = queue.line[:out] + fresh
-        self.counts.grown_old += len(queue.line) - len(kept)
+        kept = queue.line[:self.how_many_out(q)] + staying
+        gone = len(queue.line) - len(kept)
         queue.line = kept
+        return gone
 
-    def find_turn(self):
-        """Moves on to the queue whose turn it is; there is one only if some frame waits."""
-        while not self.try_turn():
-            self.on = (self.on + 1) % len(self.queues)
-            self.has_share = False
+    def time_to_go(self, length):
+        """The first time from now on at which a frame of this length may go."""
+        lacking = THOUSANDTHS * length - self.may_go
+        # Without a pace nothing ever lacks: the least burst is as long as the longest frame.
+        if lacking <= 0:
+            return self.now
+        return self.now + (lacking + self.pace - 1) // self.pace
 
-    def try_turn(self):
-        """Gives the queue that is on what it is due, and tells whether it's its turn."""
-        queue = self.queues[self.on]
-        if len(queue.line) == 0:
-            queue.credit = 0
-            return False
-        if not self.has_share:
-            queue.credit += SHARE * queue.weight
-            self.has_share = True
-        return len(queue.line[0].frame) <= queue.credit
+    def times_to_go(self):
+        """In a list: the time from when next would hand out a frame, if there is one to hand out."""
+        if self.is_out or not self.has_frames():
+            return []
+        trial = self.turns.trial()
+        trial.find_turn(self.queues)
+        return [self.time_to_go(len(self.queues[trial.on].line[0].frame))]
 
-    def time_to_gain(self, lacking):
-        """How many milliseconds until so much more may go; something lacks only if there's a pace."""
-        return (lacking + self.pace - 1) // self.pace
+    def times_of_age(self):
+        """The first time at which each of the frames will be too old, but for one that is handed out."""
+        times = []
+        if self.life > 0:
+            for q in range(len(self.queues)):
+                times.extend([one.since + self.life + 1 for one in self.not_out(q)])
+        return times
 
     def send_first(self):
         """The frame that was handed out has gone."""
-        queue = self.queues[self.on]
-        length = len(queue.line.pop(0).frame)
-        queue.credit -= length
+        length = len(self.queues[self.turns.on].line.pop(0).frame)
+        self.turns.spend(length)
         if self.pace > 0:
             self.may_go -= THOUSANDTHS * length
         self.counts.sent_frames += 1

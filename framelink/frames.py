@@ -1,4 +1,9 @@
-"""Frames: what may be put into one, how one is made, known and taken apart."""
+"""Frames: what may be put into one, how one is made, known and taken apart.
+
+The calls make and read, which need no end, are answered here.
+"""
+
+from framelink.refusals import NO_FRAME, TOO_LONG, WRONG
 
 ADDRESS_LENGTH = 6
 EVERYBODY = (255, 255, 255, 255, 255, 255)
@@ -49,6 +54,15 @@ def crc32c(row):
     return x ^ ALL_ONES
 
 
+def refusal_of(kind, to, sender, body):
+    """The refusal that is due if no frame may be made of these, else None."""
+    if not is_kind(kind) or not is_address(to) or not is_address(sender) or len(body) == 0:
+        return WRONG
+    if len(body) > LONGEST_BODY:
+        return TOO_LONG
+    return None
+
+
 def make_frame(kind, to, sender, body):
     checked = to + sender + bytes_of(kind, 2) + body
     return checked + bytes_of(crc32c(checked), CHECK_LENGTH)
@@ -75,3 +89,19 @@ def kind_of(frame):
 
 def body_of(frame):
     return frame[HEAD_LENGTH:len(frame) - CHECK_LENGTH]
+
+
+def answer_make(kind, to, sender, body):
+    """What the call make answers."""
+    refusal = refusal_of(kind, to, sender, body)
+    if refusal is not None:
+        return [refusal]
+    frame = make_frame(kind, to, sender, body)
+    return [len(frame)] + frame
+
+
+def answer_read(row):
+    """What the call read answers."""
+    if not is_frame(row):
+        return [NO_FRAME]
+    return [kind_of(row)] + to_of(row) + sender_of(row) + body_of(row)

@@ -55,6 +55,34 @@ def leave(group):
     return [8] + row(group)
 
 
+def hear(choice):
+    return [9, choice]
+
+
+def waits(now=0, q=0):
+    return [10, now, q]
+
+
+def drop(q=0):
+    return [11, q]
+
+
+def counts():
+    return [12]
+
+
+def make(kind=1, to=YOU, sender=ME, body=(1,)):
+    return [13, kind] + row(to) + row(sender) + row(body)
+
+
+def read(frame):
+    return [14] + row(frame)
+
+
+def due(now=0):
+    return [15, now]
+
+
 def group(number):
     return [3, 0, 0, 0, 0, number]
 
@@ -121,9 +149,22 @@ def end_after(*calls):
     return desk.end
 
 
+def turn_after(*calls):
+    """Which queue is on behind these calls, whether it has its share, and all credits."""
+    turns = end_after(*calls).turns
+    return turns.on, turns.has_share, turns.credit_of
+
+
+COUNTED = ["sent_frames", "sent_bytes", "heard_frames", "heard_bytes", "no_frames", "for_others", "dropped",
+           "refused_full", "grown_old", "not_taken"]
+
+
 def counted(*calls):
-    """What has been counted behind these calls, without what is still 0."""
-    return {name: number for name, number in vars(end_after(*calls).counts).items() if number != 0}
+    """What counts tells behind these calls, without what is still 0."""
+    first, *told = last(*calls, counts())
+    if first != 0 or len(told) != len(COUNTED):
+        raise AssertionError(f"counts answers {[first] + told}")
+    return {name: number for name, number in zip(COUNTED, told) if number != 0}
 
 
 def sent_marks(how_many, *calls):

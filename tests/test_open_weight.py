@@ -17,17 +17,24 @@ from tests.helper import (
     ask,
     came,
     counted,
+    counts,
+    drop,
+    due,
     end_after,
     frame,
     group,
     handing,
+    hear,
     join,
     last,
     leave,
+    make,
     opening,
     put,
     put_long,
+    read,
     sent_marks,
+    waits,
     weight,
     went,
 )
@@ -70,13 +77,23 @@ class Bounds(unittest.TestCase):
 class NotOpen(unittest.TestCase):
     def test_all_is_refused_before_opening(self):
         calls = [weight(0, 1), put(), handing(), went(), came(frame()), came([1]), join(group(1)), leave(group(1))]
+        calls += [hear(0), hear(1), waits(), drop(), due()]
         for call in calls:
             self.assertEqual(ask(call), [WRONG], call)
             self.assertEqual(ask(call, opening(), handing()), [WRONG, [0], [0]], call)
 
     def test_is_told_ahead_of_other_refusals(self):
-        for call in [put(body=[1] * 1501), went(0, 1), came([]), leave(group(1))]:
+        for call in [put(body=[1] * 1501), went(0, 1), came([]), leave(group(1)), due(0)]:
             self.assertEqual(ask(call), [WRONG], call)
+
+    def test_after_a_refused_opening_too(self):
+        for call in [weight(0, 1), hear(1), waits(), drop(), due(), came(frame()), join(group(1))]:
+            self.assertEqual(ask(opening(queues=0), call), [WRONG, WRONG], call)
+
+    def test_counts_make_and_read_are_answered(self):
+        for before in ([], [opening(each=0)]):
+            got = ask(*before, counts(), make(), read(frame()))[len(before):]
+            self.assertEqual(got, [[0] * 11, [19] + frame(1, YOU, ME), [1] + ME + YOU + [1]])
 
 
 class NewInAll(unittest.TestCase):
@@ -160,7 +177,7 @@ class Weight(unittest.TestCase):
 class Times(unittest.TestCase):
     def test_bounds_of_each_time(self):
         out = [opening(now=10), put(10), handing(10)]
-        for before, call in [(out[:1], handing), (out, went), (out[:1], put)]:
+        for before, call in [(out[:1], handing), (out, went), (out[:1], put), (out, waits), (out[:2], due)]:
             for now in (10, 11, LAST_TIME):
                 self.assertNotEqual(last(*before, call(now)), WRONG, (call, now))
             for now in (0, 9, LAST_TIME + 1, 2**64 - 1):

@@ -2,7 +2,7 @@
 
 import unittest
 
-from tests.helper import ask, end_after, handing, last, opening, put_long, sent_marks, weight, went
+from tests.helper import ask, handing, last, opening, put_long, sent_marks, turn_after, weight, went
 
 
 def fill(q, length, how_many):
@@ -47,7 +47,7 @@ class Turns(unittest.TestCase):
 
     def test_the_highest_weight_is_all_told(self):
         calls = [opening(queues=2), weight(0, 64), put_long(1518, 1), handing(0), went(0, 1)]
-        self.assertEqual(end_after(*calls).queues[0].credit, 64 * 256 - 1518)
+        self.assertEqual(turn_after(*calls)[2][0], 64 * 256 - 1518)
 
     def test_frames_longer_than_a_share(self):
         calls = [opening(queues=2), *fill(0, 1518, 2), *fill(1, 256, 12)]
@@ -67,8 +67,8 @@ class Turns(unittest.TestCase):
 
     def test_an_empty_queue_passed_over_loses_its_credit(self):
         calls = [opening(queues=2), *fill(0, 200, 1), *fill(1, 256, 1), *go(), *go()]
-        self.assertEqual(end_after(*calls[:-2]).queues[0].credit, 56)
-        self.assertEqual([queue.credit for queue in end_after(*calls).queues], [0, 0])
+        self.assertEqual(turn_after(*calls[:-2])[2][0], 56)
+        self.assertEqual(turn_after(*calls)[2], [0, 0])
         self.check([*calls, *fill(0, 257, 1), *fill(1, 256, 1)], [1, 0])
 
     def test_a_queue_that_is_filled_again_in_its_turn_keeps_its_credit(self):
@@ -82,7 +82,7 @@ class Turns(unittest.TestCase):
 
     def test_a_weight_changed_while_there_is_credit(self):
         calls = [opening(queues=2), *fill(0, 200, 7), *fill(1, 256, 3), *go(), weight(0, 3)]
-        self.assertEqual(end_after(*calls).queues[0].credit, 56)
+        self.assertEqual(turn_after(*calls)[2][0], 56)
         self.check(calls, [1, 0, 0, 0, 0, 1, 0, 0, 1])
 
     def test_a_weight_lessened_while_there_is_credit(self):
@@ -91,7 +91,7 @@ class Turns(unittest.TestCase):
 
     def test_not_taken_it_stays_its_turn_with_its_credit(self):
         calls = [opening(queues=2), *fill(0, 256, 2), *fill(1, 256, 2), handing(0), went(0, 0), handing(0), went(0, 0)]
-        self.assertEqual(end_after(*calls).queues[0].credit, 256)
+        self.assertEqual(turn_after(*calls)[2][0], 256)
         self.check(calls, [0, 1, 0, 1])
 
     def test_a_frame_that_may_go_later_keeps_its_turn(self):
@@ -99,7 +99,7 @@ class Turns(unittest.TestCase):
         # 1536 of credit less 1518: 18 are left, so queue 1 is next with its two short frames.
         got = ask(*calls, handing(0), handing(0), handing(18))[-3:]
         self.assertEqual(got, [[2, 19], [2, 19], [2, 19]])
-        self.assertEqual(end_after(*calls, handing(0), handing(0)).queues[1].credit, 256)
+        self.assertEqual(turn_after(*calls, handing(0), handing(0))[2][1], 256)
         got = last(*calls, handing(0), put_long(19, 9, q=0), handing(19))
         self.assertEqual(got[13] * 256 + got[14], 100)
 
@@ -111,8 +111,7 @@ class Turns(unittest.TestCase):
         calls = [opening(queues=2, life=10, rate=1000), put_long(1518, 1), *go()]
         calls += [put_long(200, 2, now=0, q=1), handing(0), put_long(250, 3, now=9, q=1), handing(11)]
         self.assertEqual(ask(*calls)[-1], [2, 250])
-        self.assertEqual(end_after(*calls).queues[1].credit, 256)
+        self.assertEqual(turn_after(*calls)[2][1], 256)
 
     def test_put_and_weight_move_no_turn(self):
-        end = end_after(opening(queues=2), *fill(1, 256, 1), weight(1, 5))
-        self.assertEqual((end.on, end.has_share, [queue.credit for queue in end.queues]), (0, False, [0, 0]))
+        self.assertEqual(turn_after(opening(queues=2), *fill(1, 256, 1), weight(1, 5)), (0, False, [0, 0]))
